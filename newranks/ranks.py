@@ -5,6 +5,9 @@ from newranks.wrestlers import CannotBe, NoRoom, NotAllowed, Tournament
 BEGINS = 0
 WRESTLER = 1
 CHECK = 2
+BEST = 3
+FAIR = 4
+PLAIN = 5
 
 
 class NoSuchCall(Exception):
@@ -56,4 +59,10 @@ def carry_out(tournament, number, given):
         return [tournament.wrestler(given[0], given[1])]
     if number == CHECK:
         return tournament.check(given)
+    if number == BEST:
+        return tournament.best()
+    if number == FAIR:
+        return tournament.fair()
+    if number == PLAIN:
+        return tournament.plain()
     raise NoSuchCall(f"no call has the number {number}")

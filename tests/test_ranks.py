@@ -1,49 +1,11 @@
 import contextlib
 import io
 import itertools
+import time
 import unittest
 
+from asking import LARGEST, ask, begins, best, check, fair, last, line, plain, wrestler
 from newranks.ranks import answers
-
-LARGEST = 4294967295
-
-
-def begins(worth):
-    return [0, 1, worth, 0]
-
-
-def wrestler(won, lost):
-    return [1, 2, won, lost, 0]
-
-
-def check(*new_list):
-    return [2, len(new_list), *new_list, 0]
-
-
-def line(*calls):
-    return [number for call in calls for number in call]
-
-
-def split(told):
-    """Take the given list apart: one list of numbers for each answer."""
-    parts = []
-    at = 0
-    while at < len(told):
-        behind = at + 1 + told[at]
-        if told[at] < 1 or behind > len(told):
-            raise AssertionError(f"no count of an answer's numbers stands at {at}: {told}")
-        parts.append(told[at + 1:behind])
-        at = behind
-    return parts
-
-
-def ask(*calls):
-    """Give the answers to the calls, each as a list."""
-    return split(answers(line(*calls)))
-
-
-def last(*calls):
-    return ask(*calls)[-1]
 
 
 class BeginsTest(unittest.TestCase):
@@ -280,16 +242,21 @@ for name in ("append", "clear", "extend", "insert", "pop", "remove", "reverse", 
 
 
 class InterfaceTest(unittest.TestCase):
-    mixed = line(begins(10), wrestler(7, 8), wrestler(8, 7), check(1, 0), check(0, 1), check(0, 0), check(1, 0, 2),
-                 wrestler(8, 8), begins(31), begins(0), check(), wrestler(1, 0), wrestler(1, 0), check(1, 0))
-    mixed_told = [1, 0, 1, 0, 1, 1, 2, 0, 0, 2, 20, 10, 1, -1, 1, -1,
-                  1, -1, 1, -1, 1, 0, 2, 0, 0, 1, 0, 1, 1, 2, -6, 0]
+    mixed = line(begins(10), wrestler(7, 8), wrestler(8, 7), check(1, 0), best, check(0, 1), check(0, 0), fair,
+                 check(1, 0, 2), plain, wrestler(8, 8), begins(31), best, begins(0), check(), plain, fair,
+                 wrestler(1, 0), wrestler(1, 0), check(1, 0), plain)
+    mixed_told = [1, 0, 1, 0, 1, 1, 2, 0, 0, 4, 0, 1, 1, 0, 2, 20, 10, 1, -1, 4, 0, 1, 1, 0,
+                  1, -1, 4, 0, 1, 1, 0, 1, -1, 1, -1, 4, 0, 1, 1, 0, 1, 0, 2, 0, 0, 2, 0, 1, 2, 0, 1,
+                  1, 0, 1, 1, 2, -6, 0, 4, 0, 1, 0, 1]
 
     def test_one_call(self):
         self.assertEqual(answers([0, 1, 30, 0]), [1, 0])
         self.assertEqual(answers([1, 2, 8, 7, 0]), [1, 0])
         self.assertEqual(answers([2, 0, 0]), [2, 0, 0])
         self.assertEqual(answers([2, 3, 1, 0, 2, 0]), [1, -1])
+        self.assertEqual(answers([3, 0, 0]), [2, 0, 1])
+        self.assertEqual(answers([4, 0, 0]), [2, 0, 1])
+        self.assertEqual(answers([5, 0, 0]), [2, 0, 1])
 
     def test_several_calls_in_one_list(self):
         self.assertEqual(answers(self.mixed), self.mixed_told)
@@ -297,6 +264,16 @@ class InterfaceTest(unittest.TestCase):
     def test_sixty_calls(self):
         calls = line(begins(1), wrestler(1, 0), *[check(0, 1, 2, 3, 4, 5, 6, LARGEST)] * 57, check(0))
         self.assertEqual(answers(calls), [1, 0, 1, 0] + [1, -1] * 57 + [2, 1, 1])
+
+    def test_sixty_calls_with_four_of_best_and_fair_without_a_noticeable_wait(self):
+        # Who won as many as lost may have any rank: so there are the most lists to go through.
+        calls = line(begins(30), *[wrestler(1, 1)] * 6, best, fair, *[plain] * 25, *[check(5, 4, 3, 2, 1, 0)] * 24,
+                     best, fair)
+        nearest = [8, 0, 1, 0, 1, 2, 3, 4, 5]
+        told = [1, 0] + line(*[[1, number] for number in range(6)]) + nearest * 27 + [2, 180, 50] * 24 + nearest * 2
+        began = time.process_time()
+        self.assertEqual(answers(calls), told)
+        self.assertLess(time.process_time() - began, 1)
 
     def test_what_is_handed_in_stays(self):
         calls = list(self.mixed)
@@ -322,6 +299,8 @@ class InterfaceTest(unittest.TestCase):
     def test_nothing_is_kept_to_the_next_time(self):
         answers(line(begins(30), wrestler(15, 0), wrestler(15, 0)))
         self.assertEqual(ask(check(), wrestler(15, 0), check(0)), [[0, 0], [0], [0, 0]])
+        answers(line(begins(30), wrestler(15, 0), wrestler(15, 0), best, fair, plain))
+        self.assertEqual(ask(best, fair, plain), [[0, 1]] * 3)
 
     def test_nothing_is_printed(self):
         out = io.StringIO()
